@@ -1,0 +1,1 @@
+"""Pleadings: cases and strikes. The calls are in strikecase.desk."""

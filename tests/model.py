@@ -1,0 +1,111 @@
+"""The document's words once more, by patterns and sets, to hold the program against."""
+
+import re
+
+NAME = rb"[a-z][a-z0-9-]{0,14}"
+LITERAL = rb"~?" + NAME
+BODY = rb"(?: " + LITERAL + rb"(?:, " + LITERAL + rb"){0,5})?"
+LAW = re.compile(rb"law (" + NAME + rb"):(" + BODY + rb") -> (" + LITERAL + rb")")
+RULE = re.compile(rb"rule (" + NAME + rb"):(" + BODY + rb") => (" + LITERAL + rb")")
+WEIGH = re.compile(rb"weigh (" + NAME + rb") > (" + NAME + rb")")
+
+
+class Fault(Exception):
+    pass
+
+
+def opposite(literal):
+    return literal[1:] if literal[:1] == b"~" else b"~" + literal
+
+
+def atoms_of(laws, rules):
+    named = set(rules)
+    for body, head in list(laws.values()) + list(rules.values()):
+        named |= {each.lstrip(b"~") for each in body + (head,)}
+    return named
+
+
+def going_on(pairs):
+    closed = set(pairs)
+    while True:
+        more = {(x, w) for x, y in closed for z, w in closed if y == z} - closed
+        if not more:
+            return closed
+        closed |= more
+
+
+def laws_clash(laws):
+    held = set()
+    while True:
+        more = {head for body, head in laws.values() if set(body) <= held} - held
+        if not more:
+            return any(opposite(each) in held for each in held)
+        held |= more
+
+
+def take_clause(laws, rules, own, most, match):
+    name, head = match[1], match[3]
+    body = tuple(match[2][1:].split(b", ")) if match[2] else ()
+    if name in laws or name in rules:
+        raise Fault(2)
+    if len(set(body)) < len(body) or (body, head) in own.values():
+        raise Fault(3)
+    own[name] = (body, head)
+    if len(own) > most or len(atoms_of(laws, rules)) > 64:
+        raise Fault(4)
+    if own is laws and laws_clash(laws):
+        raise Fault(7)
+
+
+def take_line(laws, rules, pairs, line):
+    if match := LAW.fullmatch(line):
+        take_clause(laws, rules, laws, 64, match)
+    elif match := RULE.fullmatch(line):
+        take_clause(laws, rules, rules, 10, match)
+    elif match := WEIGH.fullmatch(line):
+        if match[1] not in rules or match[2] not in rules:
+            raise Fault(5)
+        pairs.add((match[1], match[2]))
+        if any(x == y for x, y in going_on(pairs)):
+            raise Fault(6)
+    else:
+        raise Fault(1)
+
+
+def read_case(text):
+    laws, rules, pairs = {}, {}, set()
+    if text and not text.endswith(b"\n"):
+        raise Fault(1, len(text))
+    place = 0
+    for line in text.split(b"\n")[:-1]:
+        try:
+            take_line(laws, rules, pairs, line)
+        except Fault as fault:
+            raise Fault(fault.args[0], place)
+        place += len(line) + 1
+    return laws, rules, going_on(pairs)
+
+
+def kept_weights(rules, pairs):
+    return sorted((x, y) for x, y in pairs if not any((x, z) in pairs and (z, y) in pairs for z in rules))
+
+
+def form(laws, rules, pairs):
+    rows = []
+    for word, arrow, own in ((b"law ", b" -> ", laws), (b"rule ", b" => ", rules)):
+        for name, (body, head) in sorted(own.items()):
+            rows.append(word + name + b":" + (b" " if body else b"") + b", ".join(body) + arrow + head + b"\n")
+    rows += [b"weigh " + x + b" > " + y + b"\n" for x, y in kept_weights(rules, pairs)]
+    return b"".join(rows)
+
+
+# What read, print_form and count with 0 to 4 answer.
+def answers(text):
+    if len(text) > 8192:
+        return [[-1]] * 7
+    try:
+        laws, rules, pairs = read_case(text)
+    except Fault as fault:
+        return [[-6, *fault.args]] + [[-6]] * 6
+    numbers = [len(laws), len(rules), len(atoms_of(laws, rules)), len(kept_weights(rules, pairs))]
+    return [[0], [0, *form(laws, rules, pairs)], *[[0, number] for number in numbers], [-1]]

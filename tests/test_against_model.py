@@ -1,0 +1,107 @@
+"""Many made-up texts, the same each time: the program against the model, and promise 1."""
+
+import random
+import unittest
+
+import model
+from strikecase import desk
+
+
+def literal(chance, names):
+    return chance.choice(["", "", "~"]) + chance.choice(names)
+
+
+def clause(chance, word, arrow, names, own):
+    body = ", ".join(literal(chance, names) for i in range(chance.choice([0, 0, 1, 1, 2, 2, 3, 6])))
+    return f"{word} {chance.choice(own)}:{' ' if body else ''}{body} {arrow} {literal(chance, names)}"
+
+
+def line(chance, names, laws, rules):
+    sort = chance.random()
+    if sort < 0.4:
+        return clause(chance, "law", "->", names, laws)
+    if sort < 0.75:
+        return clause(chance, "rule", "=>", names + rules, rules)
+    return f"weigh {chance.choice(rules)} > {chance.choice(rules)}"
+
+
+def some_text(chance):
+    names = [f"p{i}" for i in range(chance.choice([3, 8, 80]))]
+    laws = [f"l{i}" for i in range(chance.choice([8, 90]))]
+    rules = [f"r{i}" for i in range(chance.choice([3, 9, 14]))]
+    rows = [line(chance, names, laws, rules) for i in range(chance.choice([1, 3, 8, 20, 90]))]
+    return "".join(row + "\n" for row in rows).encode()
+
+
+# Lines that would be faulty are left out, so that long texts come about that tell a case.
+def mended(text):
+    good = b""
+    for row in text.split(b"\n")[:-1]:
+        if model.answers(good + row + b"\n")[0] == [0]:
+            good += row + b"\n"
+    return good
+
+
+def damaged(chance, text):
+    if not text:
+        return b"\n"
+    place = chance.randrange(len(text))
+    sign = bytes([chance.choice(b" \n:,~->=abz09\r\t\x00\xff")])
+    return chance.choice([
+        text[:place] + text[place + 1:],
+        text[:place] + sign + text[place:],
+        text[:place] + sign + text[place + 1:],
+        text[:place],
+    ])
+
+
+def answers(text):
+    t = list(text)
+    return [desk.read(t), desk.print_form(t)] + [desk.count(what, t) for what in range(5)]
+
+
+class AgainstModel(unittest.TestCase):
+    def agree(self, text):
+        self.assertEqual(answers(text), model.answers(text), text)
+
+    def test_texts_as_they_come(self):
+        chance = random.Random(1)
+        for i in range(300):
+            self.agree(some_text(chance))
+
+    def test_damaged_texts(self):
+        chance = random.Random(2)
+        for i in range(60):
+            text = mended(some_text(chance))
+            self.agree(text)
+            for j in range(8):
+                self.agree(damaged(chance, text))
+
+    def test_every_kind_comes_about(self):
+        chance = random.Random(1)
+        kinds = {answer[1] for answer in (desk.read(list(some_text(chance))) for i in range(300)) if answer[0] == -6}
+        self.assertLessEqual({2, 3, 5, 6, 7}, kinds)
+
+
+class PromiseOne(unittest.TestCase):
+    def test_the_one_form_tells_the_same_and_prints_so_again(self):
+        chance = random.Random(3)
+        for i in range(60):
+            text = mended(some_text(chance))
+            form = bytes(desk.print_form(list(text))[1:])
+            self.assertEqual(answers(form), answers(text))
+            self.assertEqual(model.read_case(form), model.read_case(text))
+
+    # Rules go ahead of weights: the other way round would be a fault.
+    def test_the_order_of_lines_does_not_matter(self):
+        chance = random.Random(4)
+        for i in range(60):
+            text = mended(some_text(chance))
+            rows = text.splitlines(keepends=True)
+            chance.shuffle(rows)
+            moved = b"".join(sorted(rows, key=lambda row: row.startswith(b"weigh")))
+            self.assertEqual(answers(moved), answers(text))
+
+
+if __name__ == "__main__":
+    unittest.main()

@@ -1,0 +1,115 @@
+"""The refusals and their order; what is handed in, and what is kept."""
+
+import unittest
+
+from strikecase import desk
+from texts import lines, rows
+
+# The calls, by what the text is handed to.
+CALLS = (
+    desk.read,
+    desk.print_form,
+    lambda t: desk.count(0, t),
+    lambda t: desk.count(3, t),
+    lambda t: desk.count(4, t),
+    lambda t: desk.count(4294967295, t),
+)
+
+
+# A case of just so many bytes: weights that are told again and again, the last name as long as is left.
+def case_of(size):
+    rules = lines("rule a: => p", "rule b: => p1")
+    weights = "weigh a > b\n" * ((size - len(rules)) // 12 - 4)
+    left = size - len(rules) - len(weights)
+    filler = ""
+    for number in range(3):
+        share = left // 3 if number < 2 else left - len(filler)
+        filler += law_of(share, number)
+    return rules + weights + filler
+
+
+def law_of(size, number):
+    law = f"law l{number}: -> q{number}\n"
+    return f"law l{number}{'x' * (size - len(law))}: -> q{number}\n"
+
+
+class Refusals(unittest.TestCase):
+    def test_8192_bytes_are_read(self):
+        text = case_of(8192)
+        self.assertEqual(len(text), 8192)
+        self.assertEqual(desk.read(rows(text)), [0])
+        self.assertEqual(desk.count(0, rows(text)), [0, 3])
+        self.assertEqual(desk.print_form(rows(text))[0], 0)
+
+    def test_8193_bytes_are_refused(self):
+        for size in (8193, 8194, 8300):
+            text = case_of(size)
+            self.assertEqual(len(text), size)
+            for call in CALLS:
+                self.assertEqual(call(rows(text)), [-1])
+
+    def test_too_long_ahead_of_a_fault(self):
+        for text in ("x" * 8193, "\n" * 8193, "x\n" * 4150, lines("x") + case_of(8192)):
+            for call in CALLS:
+                self.assertEqual(call(rows(text)), [-1])
+
+    def test_8192_faulty_bytes(self):
+        self.assertEqual(desk.read([120] * 8192), [-6, 1, 8192])
+        self.assertEqual(desk.read([120] * 8191 + [10]), [-6, 1, 0])
+        self.assertEqual(desk.read([32] * 8191 + [10]), [-6, 1, 0])
+        self.assertEqual(desk.read([10] * 8192), [-6, 1, 0])
+        text = case_of(8190) + "x\n"
+        self.assertEqual(desk.read(rows(text)), [-6, 1, 8190])
+        text = case_of(8191) + "x"
+        self.assertEqual(desk.read(rows(text)), [-6, 1, 8192])
+
+    def test_no_case_ahead_of_what(self):
+        for text in ("x\n", "law a: -> p", lines("weigh a > b")):
+            for what in (0, 1, 2, 3, 4, 4294967295):
+                self.assertEqual(desk.count(what, rows(text)), [-6])
+            self.assertEqual(desk.print_form(rows(text)), [-6])
+
+    def test_what_behind_all(self):
+        self.assertEqual(desk.count(4, rows("law a: -> p\n")), [-1])
+
+
+class NothingKept(unittest.TestCase):
+    TEXTS = (
+        "",
+        "x\n",
+        "law a: -> p",
+        lines("rule b: => q", "law a: -> p", "rule c: => r", "weigh c > b"),
+        lines("law a: -> p", "law b: -> ~p"),
+        "x" * 8193,
+    )
+
+    def test_what_is_handed_in_stays(self):
+        for text in self.TEXTS:
+            for call in CALLS:
+                t = rows(text)
+                call(t)
+                self.assertEqual(t, rows(text))
+
+    def test_the_same_again(self):
+        first = [[call(rows(text)) for call in CALLS] for text in self.TEXTS]
+        second = [[call(rows(text)) for call in CALLS] for text in self.TEXTS]
+        backwards = [[call(rows(text)) for call in CALLS[::-1]][::-1] for text in self.TEXTS[::-1]][::-1]
+        self.assertEqual(first, second)
+        self.assertEqual(first, backwards)
+
+    def test_the_same_list_twice(self):
+        for text in self.TEXTS:
+            t = rows(text)
+            for call in CALLS:
+                self.assertEqual(call(t), call(t))
+
+    def test_a_changed_answer_changes_no_other(self):
+        t = rows(self.TEXTS[3])
+        answer = desk.print_form(t)
+        kept = list(answer)
+        answer.clear()
+        self.assertEqual(desk.print_form(t), kept)
+
+
+if __name__ == "__main__":
+    unittest.main()

@@ -1,0 +1,34 @@
+"""What the tests share: texts as the lists of bytes that the calls take."""
+
+from strikecase import desk
+
+
+def rows(text):
+    return list(text.encode("latin-1"))
+
+
+def lines(*each):
+    return "".join(line + "\n" for line in each)
+
+
+def read(text):
+    return desk.read(rows(text))
+
+
+def print_form(text):
+    return desk.print_form(rows(text))
+
+
+def count(what, text):
+    return desk.count(what, rows(text))
+
+
+def printed(text):
+    answer = print_form(text)
+    if answer[0] != 0:
+        raise AssertionError(f"refused: {answer}")
+    return bytes(answer[1:]).decode("latin-1")
+
+
+def atoms(number, first="p"):
+    return [f"{first}{i}" for i in range(number)]
