@@ -117,14 +117,12 @@ def take_line(case, line):
     return NOT_A_LINE
 
 
-# Behind the last line feed there is nothing, unless the text ends within a line. The fault of such
-# a text is told as that of the whole text, so it comes ahead of the faults of its lines.
+# Behind the last line feed there is nothing, unless the text ends within a line. That line is the
+# last, so its fault is told only where the lines before it have none; its place is the text's end.
 def read_text(t):
     if len(t) > MOST_BYTES:
         return Reading(TOO_LONG, None, NO_FAULT, 0)
     lines = split_at(t, LINE_FEED)
-    if len(lines[-1]) > 0:
-        return Reading(NO_CASE, None, NOT_A_LINE, len(t))
     case = Case()
     place = 0
     for line in lines[:-1]:
@@ -132,4 +130,6 @@ def read_text(t):
         if kind != NO_FAULT:
             return Reading(NO_CASE, None, kind, place)
         place += len(line) + 1
+    if len(lines[-1]) > 0:
+        return Reading(NO_CASE, None, NOT_A_LINE, len(t))
     return Reading(0, case, NO_FAULT, 0)

@@ -74,15 +74,15 @@ def take_line(laws, rules, pairs, line):
 
 def read_case(text):
     laws, rules, pairs = {}, {}, set()
-    if text and not text.endswith(b"\n"):
-        raise Fault(1, len(text))
     place = 0
-    for line in text.split(b"\n")[:-1]:
+    for line in re.findall(rb"[^\n]*\n|[^\n]+", text):
+        if not line.endswith(b"\n"):
+            raise Fault(1, len(text))
         try:
-            take_line(laws, rules, pairs, line)
+            take_line(laws, rules, pairs, line[:-1])
         except Fault as fault:
             raise Fault(fault.args[0], place)
-        place += len(line) + 1
+        place += len(line)
     return laws, rules, going_on(pairs)
 
 

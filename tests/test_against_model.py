@@ -77,6 +77,15 @@ class AgainstModel(unittest.TestCase):
             for j in range(8):
                 self.agree(damaged(chance, text))
 
+    # As they come, many have a faulty line before the one within which they end; mended, none has.
+    def test_texts_that_end_within_a_line(self):
+        chance = random.Random(5)
+        for i in range(150):
+            text = some_text(chance)
+            self.agree(text[:-1])
+            self.agree(text[:chance.randrange(len(text))])
+            self.agree(mended(text)[:-1])
+
     def test_every_kind_comes_about(self):
         chance = random.Random(1)
         kinds = {answer[1] for answer in (desk.read(list(some_text(chance))) for i in range(300)) if answer[0] == -6}

@@ -357,12 +357,37 @@ class EndWithinALine(FaultTest):
             self.ends_within(end)
             self.ends_within(GOOD + end)
 
+    def faulty_before(self, kind, line, before=""):
+        for good in (before, GOOD + before):
+            self.assertEqual(read(good), [0], good)
+            for between in ("", "law zx: -> zu\n", "y\n"):
+                for end in ("y", " ", "\0", "law", "law zv: -> zw", "weigh zr > zr"):
+                    text = good + line + "\n" + between + end
+                    self.assertEqual(read(text), [-6, kind, len(good)], text)
+
     def test_behind_a_faulty_line(self):
-        self.ends_within("x\ny")
-        self.ends_within("\n ")
-        self.ends_within(lines("law a: -> p", "law a: -> q") + "law c: -> r")
-        self.ends_within(lines("weigh a > b") + "rule a: => p")
-        self.ends_within(lines("law a: -> p", "law b: -> ~p") + "x")
+        self.faulty_before(1, "x")
+        self.faulty_before(1, "")
+        self.faulty_before(2, "law a: -> q", lines("law a: -> p"))
+        self.faulty_before(3, "law a: p, p -> q")
+        self.faulty_before(3, "rule b: => p", lines("rule a: => p"))
+        self.faulty_before(5, "weigh a > b", lines("rule a: => p"))
+        self.faulty_before(6, "weigh b > a", lines("rule a: => p", "rule b: => q", "weigh a > b"))
+        self.faulty_before(7, "law b: -> ~p", lines("law a: -> p"))
+
+    def test_behind_a_rule_too_many(self):
+        rules = lines(*[f"rule a{i}: => p{i}" for i in range(10)])
+        self.ends_within(rules + "rule b: => q")
+        self.assertEqual(read(rules + lines("rule b: => q") + "rule c: => r"), [-6, 4, len(rules)])
+
+    # Kind 1 is the first of its reasons, whatever kind the line would have with its line feed.
+    def test_a_line_that_would_be_faulty_with_its_end(self):
+        before = lines("law a: -> p", "rule b: => q", "rule c: => r", "weigh b > c")
+        for end in ("law a: -> s", "law d: -> p", "rule d: => q", "law d: q, q -> s", "weigh b > x", "weigh c > b",
+                    "law d: -> ~p"):
+            answer = read(before + end + "\n")
+            self.assertIn(answer, [[-6, kind, len(before)] for kind in range(2, 8)], end)
+            self.ends_within(before + end)
 
 
 if __name__ == "__main__":
