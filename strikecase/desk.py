@@ -1,11 +1,17 @@
 """The calls. Each answers a list: 0 and what is told, or a refusal's number below 0."""
 
+from strikecase.following import follows_from
 from strikecase.form import one_form
+from strikecase.numbering import ATOMS, is_set_of_rules, literal_numbers, names_in_order
 from strikecase.pleading import least_weights
 from strikecase.reading import NO_CASE, read_text
+from strikecase.words import parse_literal
 
 DONE = 0
 OUT_OF_BOUNDS = -1
+NONE_THERE = -3
+
+WEIGHTS = 3
 
 
 def read(t):
@@ -26,12 +32,39 @@ def count(what, t):
     reading = read_text(t)
     if reading.refusal != DONE:
         return [reading.refusal]
-    if what == 0:
-        return [DONE, len(reading.case.laws)]
-    if what == 1:
-        return [DONE, len(reading.case.rules)]
-    if what == 2:
-        return [DONE, len(reading.case.atoms)]
-    if what == 3:
+    if what <= ATOMS:
+        return [DONE, len(names_in_order(reading.case, what))]
+    if what == WEIGHTS:
         return [DONE, len(least_weights(reading.case))]
     return [OUT_OF_BOUNDS]
+
+
+def name(what, i, t):
+    reading = read_text(t)
+    if reading.refusal != DONE:
+        return [reading.refusal]
+    if what > ATOMS:
+        return [OUT_OF_BOUNDS]
+    names = names_in_order(reading.case, what)
+    if i >= len(names):
+        return [NONE_THERE]
+    return [DONE] + list(names[i])
+
+
+def number(t, literal):
+    reading = read_text(t)
+    if reading.refusal != DONE:
+        return [reading.refusal]
+    told = parse_literal(tuple(literal))
+    if told is None or told[0] not in reading.case.atoms:
+        return [NONE_THERE]
+    return [DONE] + literal_numbers(reading.case, [told])
+
+
+def follows(chosen, t):
+    reading = read_text(t)
+    if reading.refusal != DONE:
+        return [reading.refusal]
+    if not is_set_of_rules(reading.case, chosen):
+        return [OUT_OF_BOUNDS]
+    return [DONE] + literal_numbers(reading.case, follows_from(reading.case, chosen))

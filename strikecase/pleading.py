@@ -54,8 +54,10 @@ def outweighs_itself_with(case, over, under):
     return over == under or (under, over) in case.weights
 
 
-def by_name(clauses):
-    return sorted(clauses, key=lambda clause: clause.name)
+# A clause's place is its number from then on.
+def put_in_order(case):
+    case.laws = sorted(case.laws, key=lambda law: law.name)
+    case.rules = sorted(case.rules, key=lambda rule: rule.name)
 
 
 def stands_between(case, middle, pair):
@@ -71,16 +73,31 @@ def least_weights(case):
     return kept
 
 
-# The least set of literals that has the head of each clause all of whose body it has.
+# Which clauses, by their places in the list, have which literal in their body.
+def places_by_literal(clauses):
+    places = {}
+    for place, clause in enumerate(clauses):
+        for literal in clause.body:
+            places[literal] = places.get(literal, []) + [place]
+    return places
+
+
+# The least set of literals that has the head of each clause all of whose body it has. Each literal
+# is gone through once, and a clause's head is taken when none of its body is missing any more, so a
+# long chain of clauses costs no more than its length. No body has a literal twice.
 def what_follows(clauses):
+    places = places_by_literal(clauses)
+    missing = [len(clause.body) for clause in clauses]
+    coming = [clause.head for clause in clauses if len(clause.body) == 0]
     held = {}
-    growing = True
-    while growing:
-        growing = False
-        for clause in clauses:
-            if clause.head not in held and all([literal in held for literal in clause.body]):
-                held[clause.head] = True
-                growing = True
+    while len(coming) > 0:
+        literal = coming.pop()
+        if literal not in held:
+            held[literal] = True
+            for place in places.get(literal, []):
+                missing[place] -= 1
+                if missing[place] == 0:
+                    coming.append(clauses[place].head)
     return held
 
 

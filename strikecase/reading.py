@@ -2,7 +2,7 @@
 
 from strikecase.lines import LAW_ARROW, LAW_WORD, RULE_ARROW, RULE_WORD, WEIGH_WORD, parse_clause, parse_weight
 from strikecase.pleading import Case, add_law, add_rule, add_weight, has_opposites, literal_atoms
-from strikecase.pleading import outweighs_itself_with, rule_atoms, what_follows
+from strikecase.pleading import outweighs_itself_with, put_in_order, rule_atoms, what_follows
 from strikecase.words import BLANK, LINE_FEED, spell, split_at
 
 MOST_BYTES = 8192
@@ -132,4 +132,5 @@ def read_text(t):
         place += len(line) + 1
     if len(lines[-1]) > 0:
         return Reading(NO_CASE, None, NOT_A_LINE, len(t))
+    put_in_order(case)
     return Reading(0, case, NO_FAULT, 0)

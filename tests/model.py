@@ -34,13 +34,16 @@ def going_on(pairs):
         closed |= more
 
 
-def laws_clash(laws):
-    held = set()
+def closure(clauses, held):
     while True:
-        more = {head for body, head in laws.values() if set(body) <= held} - held
+        more = {head for body, head in clauses if set(body) <= held} - held
         if not more:
-            return any(opposite(each) in held for each in held)
-        held |= more
+            return held
+        held = held | more
+
+
+def has_clash(held):
+    return any(opposite(each) in held for each in held)
 
 
 def take_clause(laws, rules, own, most, match):
@@ -53,7 +56,7 @@ def take_clause(laws, rules, own, most, match):
     own[name] = (body, head)
     if len(own) > most or len(atoms_of(laws, rules)) > 64:
         raise Fault(4)
-    if own is laws and laws_clash(laws):
+    if own is laws and has_clash(closure(laws.values(), set())):
         raise Fault(7)
 
 
@@ -97,6 +100,37 @@ def form(laws, rules, pairs):
             rows.append(word + name + b":" + (b" " if body else b"") + b", ".join(body) + arrow + head + b"\n")
     rows += [b"weigh " + x + b" > " + y + b"\n" for x, y in kept_weights(rules, pairs)]
     return b"".join(rows)
+
+
+def tells_a_case(text):
+    try:
+        read_case(text)
+    except Fault:
+        return False
+    return True
+
+
+def literal_number(atoms, literal):
+    return 2 * atoms.index(literal.lstrip(b"~")) + literal.startswith(b"~")
+
+
+# All that is told of a case that is there, call by call, of every number and set that it has.
+class Told:
+    def __init__(self, text):
+        self.laws, self.rules, self.pairs = read_case(text)
+        self.atoms = sorted(atoms_of(self.laws, self.rules))
+        self.names = sorted(self.rules)
+        self.sets = range(2 ** len(self.names))
+
+    def members(self, chosen):
+        return [name for i, name in enumerate(self.names) if chosen // 2 ** i % 2]
+
+    def held(self, chosen):
+        members = self.members(chosen)
+        return closure(list(self.laws.values()) + [self.rules[name] for name in members], set(members))
+
+    def follows(self, chosen):
+        return sorted(literal_number(self.atoms, literal) for literal in self.held(chosen))
 
 
 # What read, print_form and count with 0 to 4 answer.

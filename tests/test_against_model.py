@@ -3,6 +3,7 @@
 import random
 import unittest
 
+import cases
 import model
 from strikecase import desk
 
@@ -90,6 +91,35 @@ class AgainstModel(unittest.TestCase):
         chance = random.Random(1)
         kinds = {answer[1] for answer in (desk.read(list(some_text(chance))) for i in range(300)) if answer[0] == -6}
         self.assertLessEqual({2, 3, 5, 6, 7}, kinds)
+
+
+def some_told(seed, number, most_rules):
+    chance = random.Random(seed)
+    for i in range(number):
+        text = cases.some_case(chance, most_rules).encode()
+        yield text, list(text), model.Told(text)
+
+
+class ToldAgainstModel(unittest.TestCase):
+    def test_name(self):
+        for text, t, told in some_told(21, 60, 10):
+            for what, names in enumerate((sorted(told.laws), told.names, told.atoms)):
+                answers = [desk.name(what, i, t) for i in range(len(names) + 1)]
+                self.assertEqual(answers, [[0, *each] for each in names] + [[-3]], text)
+
+    def test_number(self):
+        for text, t, told in some_told(22, 60, 10):
+            for literal in [mark + name for mark in (b"", b"~") for name in told.atoms + sorted(told.laws)]:
+                expected = [-3]
+                if literal.lstrip(b"~") in told.atoms:
+                    expected = [0, model.literal_number(told.atoms, literal)]
+                self.assertEqual(desk.number(t, list(literal)), expected, text)
+
+    def test_follows(self):
+        for text, t, told in some_told(23, 60, 6):
+            for chosen in told.sets:
+                self.assertEqual(desk.follows(chosen, t), [0, *told.follows(chosen)], text)
+            self.assertEqual(desk.follows(len(told.sets), t), [-1], text)
 
 
 class PromiseOne(unittest.TestCase):

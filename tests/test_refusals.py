@@ -13,6 +13,18 @@ CALLS = (
     lambda t: desk.count(3, t),
     lambda t: desk.count(4, t),
     lambda t: desk.count(4294967295, t),
+    lambda t: desk.name(0, 0, t),
+    lambda t: desk.name(1, 1, t),
+    lambda t: desk.name(2, 64, t),
+    lambda t: desk.name(3, 0, t),
+    lambda t: desk.name(4294967295, 4294967295, t),
+    lambda t: desk.number(t, rows("q")),
+    lambda t: desk.number(t, rows("~p")),
+    lambda t: desk.number(t, []),
+    lambda t: desk.number(t, [97] * 8300),
+    lambda t: desk.follows(0, t),
+    lambda t: desk.follows(3, t),
+    lambda t: desk.follows(4294967295, t),
 )
 
 
@@ -63,14 +75,20 @@ class Refusals(unittest.TestCase):
         text = case_of(8191) + "x"
         self.assertEqual(desk.read(rows(text)), [-6, 1, 8192])
 
-    def test_no_case_ahead_of_what(self):
-        for text in ("x\n", "law a: -> p", lines("weigh a > b")):
-            for what in (0, 1, 2, 3, 4, 4294967295):
-                self.assertEqual(desk.count(what, rows(text)), [-6])
-            self.assertEqual(desk.print_form(rows(text)), [-6])
+    # Of read alone kind and place stand behind it.
+    def test_no_case_ahead_of_a_call_s_own_refusals(self):
+        for text in ("x\n", "law a: -> p", lines("weigh a > b"), case_of(8190) + "x\n", case_of(8191) + "x"):
+            for call in CALLS:
+                if call != desk.read:
+                    self.assertEqual(call(rows(text)), [-6])
 
-    def test_what_behind_all(self):
-        self.assertEqual(desk.count(4, rows("law a: -> p\n")), [-1])
+    def test_a_call_s_own_refusals_behind_all(self):
+        for t in (rows("law a: -> p\n"), rows(case_of(8192))):
+            self.assertEqual(desk.count(4, t), [-1])
+            self.assertEqual(desk.name(3, 4294967295, t), [-1])
+            self.assertEqual(desk.name(0, 4294967295, t), [-3])
+            self.assertEqual(desk.number(t, rows("none")), [-3])
+            self.assertEqual(desk.follows(4, t), [-1])
 
 
 class NothingKept(unittest.TestCase):

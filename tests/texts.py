@@ -23,6 +23,33 @@ def count(what, text):
     return desk.count(what, rows(text))
 
 
+def name(what, i, text):
+    return desk.name(what, i, rows(text))
+
+
+def number(text, literal):
+    return desk.number(rows(text), rows(literal))
+
+
+def follows(chosen, text):
+    return desk.follows(chosen, rows(text))
+
+
+# What follows, by its literals' words in the place of their numbers.
+def words_that_follow(chosen, text):
+    answer = follows(chosen, text)
+    if answer[0] != 0:
+        raise AssertionError(f"refused: {answer}")
+    return " ".join("~" * (each % 2) + named(2, each // 2, text) for each in answer[1:])
+
+
+def named(what, i, text):
+    answer = name(what, i, text)
+    if answer[0] != 0:
+        raise AssertionError(f"refused: {answer}")
+    return bytes(answer[1:]).decode("latin-1")
+
+
 def printed(text):
     answer = print_form(text)
     if answer[0] != 0:
