@@ -1,8 +1,8 @@
 """The calls. Each answers a list: 0 and what is told, or a refusal's number below 0."""
 
-from strikecase.following import follows_from
+from strikecase.clashing import follows_from, least_clashes, set_clashes
 from strikecase.form import one_form
-from strikecase.numbering import ATOMS, is_set_of_rules, literal_numbers, names_in_order
+from strikecase.numbering import ATOMS, is_rule, is_set_of_rules, literal_numbers, names_in_order, outweighed_by
 from strikecase.pleading import least_weights
 from strikecase.reading import NO_CASE, read_text
 from strikecase.words import parse_literal
@@ -68,3 +68,28 @@ def follows(chosen, t):
     if not is_set_of_rules(reading.case, chosen):
         return [OUT_OF_BOUNDS]
     return [DONE] + literal_numbers(reading.case, follows_from(reading.case, chosen))
+
+
+def clash(chosen, t):
+    reading = read_text(t)
+    if reading.refusal != DONE:
+        return [reading.refusal]
+    if not is_set_of_rules(reading.case, chosen):
+        return [OUT_OF_BOUNDS]
+    return [DONE, int(set_clashes(reading.case, chosen))]
+
+
+def clashes(t):
+    reading = read_text(t)
+    if reading.refusal != DONE:
+        return [reading.refusal]
+    return [DONE] + least_clashes(reading.case)
+
+
+def outweighs(i, t):
+    reading = read_text(t)
+    if reading.refusal != DONE:
+        return [reading.refusal]
+    if not is_rule(reading.case, i):
+        return [OUT_OF_BOUNDS]
+    return [DONE, outweighed_by(reading.case, i)]

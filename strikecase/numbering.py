@@ -26,14 +26,35 @@ def literal_numbers(case, literals):
     return sorted([2 * numbers[literal[0]] + literal[1] for literal in literals])
 
 
+def is_rule(case, i):
+    return i < len(case.rules)
+
+
 # A set of rules is a number that has bit i for rule i.
+def number_of_sets(case):
+    return 1 << len(case.rules)
+
+
+def is_set_of_rules(case, chosen):
+    return chosen < number_of_sets(case)
+
+
 def has_rule(chosen, i):
     return (chosen >> i) & 1 == 1
 
 
-def is_set_of_rules(case, chosen):
-    return chosen >> len(case.rules) == 0
+def is_within(chosen, other):
+    return chosen & other == chosen
 
 
 def rules_in(case, chosen):
     return [rule for i, rule in enumerate(case.rules) if has_rule(chosen, i)]
+
+
+def set_of(numbers):
+    return sum([1 << i for i in numbers])
+
+
+def outweighed_by(case, i):
+    over = case.rules[i].name
+    return set_of([j for j, rule in enumerate(case.rules) if (over, rule.name) in case.weights])

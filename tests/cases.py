@@ -7,23 +7,37 @@ def literal(chance, names):
     return chance.choice(["", "~"]) + chance.choice(names)
 
 
-def clause(chance, word, arrow, name, names):
-    body = chance.sample(names, chance.choice([0, 0, 1, 1, 2, 3]))
-    row = ", ".join(chance.choice(["", "", "~"]) + each for each in body)
-    return f"{word} {name}:{' ' if row else ''}{row} {arrow} {literal(chance, names)}"
+def clause(start, body, arrow, head):
+    return start + ":" + "".join(" " + each + "," for each in body)[:-1] + f" {arrow} {head}"
 
 
-# Few atoms, the rules' names among them, so that many sets clash. Lines that would be faulty are
-# left out one by one.
+def any_clauses(chance, names, atoms):
+    heads = [(f"rule {name}", "=>") for name in names]
+    heads += [(f"law l{i}", "->") for i in range(chance.randint(0, 8))]
+    for start, arrow in heads:
+        body = chance.sample(atoms, chance.choice([0, 0, 1, 1, 2, 3]))
+        yield clause(start, [chance.choice(["", "", "~"]) + each for each in body], arrow, literal(chance, atoms))
+
+
+# Rules that hold by themselves, and laws by which some of them can't be held together.
+def tangled_clauses(chance, names, atoms):
+    for name in names:
+        yield clause(f"rule {name}", chance.sample(atoms, chance.choice([0, 0, 0, 0, 1])), "=>", chance.choice(atoms))
+    for i in range(chance.randint(1, 10)):
+        body = chance.sample(atoms, chance.choice([1, 1, 2, 2, 3]))
+        yield clause(f"law l{i}", body, "->", chance.choice(["~", "~", ""]) + chance.choice(atoms))
+
+
+# The rules' names are among the atoms, so that many sets clash. Lines that would be faulty are left
+# out one by one.
 def some_case(chance, most_rules):
-    names = [f"r{i}" for i in range(chance.randint(0, most_rules))]
+    names = [f"r{i}" for i in range(max(chance.randint(0, most_rules), chance.randint(0, most_rules)))]
     atoms = names + [f"p{i}" for i in range(chance.randint(3, 6))]
-    rows = [clause(chance, "rule", "=>", each, atoms) for each in names]
-    rows += [clause(chance, "law", "->", f"l{i}", atoms) for i in range(chance.randint(0, 8))]
-    chance.shuffle(rows)
-    rows += [f"weigh {chance.choice(names)} > {chance.choice(names)}" for i in range(chance.randint(0, 5)) if names]
+    clauses = list(chance.choice([any_clauses, tangled_clauses])(chance, names, atoms))
+    chance.shuffle(clauses)
+    weights = [f"weigh {chance.choice(names)} > {chance.choice(names)}" for i in range(chance.randint(0, 6)) if names]
     good = ""
-    for row in rows:
+    for row in clauses + weights:
         if model.tells_a_case((good + row + "\n").encode()):
             good += row + "\n"
     return good

@@ -114,6 +114,14 @@ def literal_number(atoms, literal):
     return 2 * atoms.index(literal.lstrip(b"~")) + literal.startswith(b"~")
 
 
+def within(chosen, other):
+    return chosen | other == other
+
+
+def least(sets):
+    return [each for each in sets if not any(within(other, each) for other in sets if other != each)]
+
+
 # All that is told of a case that is there, call by call, of every number and set that it has.
 class Told:
     def __init__(self, text):
@@ -131,6 +139,15 @@ class Told:
 
     def follows(self, chosen):
         return sorted(literal_number(self.atoms, literal) for literal in self.held(chosen))
+
+    def clash(self, chosen):
+        return has_clash(self.held(chosen))
+
+    def clashes(self):
+        return least([chosen for chosen in self.sets if self.clash(chosen)])
+
+    def outweighs(self, i):
+        return [j for j, name in enumerate(self.names) if (self.names[i], name) in self.pairs]
 
 
 # What read, print_form and count with 0 to 4 answer.

@@ -121,6 +121,26 @@ class ToldAgainstModel(unittest.TestCase):
                 self.assertEqual(desk.follows(chosen, t), [0, *told.follows(chosen)], text)
             self.assertEqual(desk.follows(len(told.sets), t), [-1], text)
 
+    def test_clash(self):
+        for text, t, told in some_told(24, 60, 6):
+            for chosen in told.sets:
+                self.assertEqual(desk.clash(chosen, t), [0, 1 if told.clash(chosen) else 0], text)
+            self.assertEqual(desk.clash(len(told.sets), t), [-1], text)
+
+    def test_clashes(self):
+        for text, t, told in some_told(25, 200, 6):
+            self.assertEqual(desk.clashes(t), [0, *told.clashes()], text)
+
+    def test_clashes_of_up_to_ten_rules(self):
+        for text, t, told in some_told(26, 15, 10):
+            self.assertEqual(desk.clashes(t), [0, *told.clashes()], text)
+
+    def test_outweighs(self):
+        for text, t, told in some_told(27, 100, 10):
+            for i in range(len(told.names)):
+                self.assertEqual(desk.outweighs(i, t), [0, sum(2 ** j for j in told.outweighs(i))], text)
+            self.assertEqual(desk.outweighs(len(told.names), t), [-1], text)
+
 
 class PromiseOne(unittest.TestCase):
     def test_the_one_form_tells_the_same_and_prints_so_again(self):

@@ -25,6 +25,13 @@ CALLS = (
     lambda t: desk.follows(0, t),
     lambda t: desk.follows(3, t),
     lambda t: desk.follows(4294967295, t),
+    lambda t: desk.clash(0, t),
+    lambda t: desk.clash(3, t),
+    lambda t: desk.clash(4294967295, t),
+    desk.clashes,
+    lambda t: desk.outweighs(0, t),
+    lambda t: desk.outweighs(1, t),
+    lambda t: desk.outweighs(4294967295, t),
 )
 
 
@@ -89,6 +96,8 @@ class Refusals(unittest.TestCase):
             self.assertEqual(desk.name(0, 4294967295, t), [-3])
             self.assertEqual(desk.number(t, rows("none")), [-3])
             self.assertEqual(desk.follows(4, t), [-1])
+            self.assertEqual(desk.clash(4, t), [-1])
+            self.assertEqual(desk.outweighs(2, t), [-1])
 
 
 class NothingKept(unittest.TestCase):

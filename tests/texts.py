@@ -35,6 +35,18 @@ def follows(chosen, text):
     return desk.follows(chosen, rows(text))
 
 
+def clash(chosen, text):
+    return desk.clash(chosen, rows(text))
+
+
+def clashes(text):
+    return desk.clashes(rows(text))
+
+
+def outweighs(i, text):
+    return desk.outweighs(i, rows(text))
+
+
 # What follows, by its literals' words in the place of their numbers.
 def words_that_follow(chosen, text):
     answer = follows(chosen, text)
@@ -48,6 +60,12 @@ def named(what, i, text):
     if answer[0] != 0:
         raise AssertionError(f"refused: {answer}")
     return bytes(answer[1:]).decode("latin-1")
+
+
+# A set of rules, by their names.
+def set_of(names, text):
+    own = [named(1, i, text) for i in range(count(1, text)[1])]
+    return sum(2 ** own.index(each) for each in names.split())
 
 
 def printed(text):
