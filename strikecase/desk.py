@@ -5,6 +5,7 @@ from strikecase.form import one_form
 from strikecase.numbering import ATOMS, is_rule, is_set_of_rules, literal_numbers, names_in_order, outweighed_by
 from strikecase.pleading import least_weights
 from strikecase.reading import NO_CASE, read_text
+from strikecase.striking import does_strike, strikers_of, strikers_of_all, struck_out
 from strikecase.words import parse_literal
 
 DONE = 0
@@ -93,3 +94,30 @@ def outweighs(i, t):
     if not is_rule(reading.case, i):
         return [OUT_OF_BOUNDS]
     return [DONE, outweighed_by(reading.case, i)]
+
+
+def strikes(chosen, i, t):
+    reading = read_text(t)
+    if reading.refusal != DONE:
+        return [reading.refusal]
+    if not is_set_of_rules(reading.case, chosen) or not is_rule(reading.case, i):
+        return [OUT_OF_BOUNDS]
+    return [DONE, int(does_strike(chosen, strikers_of(reading.case, i)))]
+
+
+def strikers(i, t):
+    reading = read_text(t)
+    if reading.refusal != DONE:
+        return [reading.refusal]
+    if not is_rule(reading.case, i):
+        return [OUT_OF_BOUNDS]
+    return [DONE] + strikers_of(reading.case, i)
+
+
+def struck(on, chosen, t):
+    reading = read_text(t)
+    if reading.refusal != DONE:
+        return [reading.refusal]
+    if not is_set_of_rules(reading.case, on) or not is_set_of_rules(reading.case, chosen):
+        return [OUT_OF_BOUNDS]
+    return [DONE, struck_out(on, chosen, strikers_of_all(reading.case))]

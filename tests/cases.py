@@ -1,6 +1,9 @@
 """Made-up texts that tell a case, small enough that all sets of rules can be gone through."""
 
+import itertools
+
 import model
+from texts import lines
 
 
 def literal(chance, names):
@@ -41,3 +44,21 @@ def some_case(chance, most_rules):
         if model.tells_a_case((good + row + "\n").encode()):
             good += row + "\n"
     return good
+
+
+def sets_of_size(size, number):
+    return sorted(sum(2 ** i for i in each) for each in itertools.combinations(range(number), size))
+
+
+# Any `least` of the rules clash, and no fewer. sI-N: of the first I rules at least N are there; those
+# from which the last can't be reached are left out.
+def counting_case(number, least):
+    laws = []
+    for n in range(1, least + 1):
+        for i in range(n, n + number - least + 1):
+            before = f", s{i - 1}-{n - 1}" if n > 1 else ""
+            laws.append(f"r{i - 1}{before} -> s{i}-{n}")
+            if i > n:
+                laws.append(f"s{i - 1}-{n} -> s{i}-{n}")
+    laws.append(f"s{number}-{least} -> ~s{number}-{least}")
+    return lines(*[f"law l{i}: {law}" for i, law in enumerate(laws)], *[f"rule r{i}: => r{i}" for i in range(number)])

@@ -114,6 +114,10 @@ def literal_number(atoms, literal):
     return 2 * atoms.index(literal.lstrip(b"~")) + literal.startswith(b"~")
 
 
+def has(chosen, i):
+    return chosen // 2 ** i % 2 == 1
+
+
 def within(chosen, other):
     return chosen | other == other
 
@@ -129,9 +133,10 @@ class Told:
         self.atoms = sorted(atoms_of(self.laws, self.rules))
         self.names = sorted(self.rules)
         self.sets = range(2 ** len(self.names))
+        self.known_clashes = {}
 
     def members(self, chosen):
-        return [name for i, name in enumerate(self.names) if chosen // 2 ** i % 2]
+        return [name for i, name in enumerate(self.names) if has(chosen, i)]
 
     def held(self, chosen):
         members = self.members(chosen)
@@ -141,13 +146,28 @@ class Told:
         return sorted(literal_number(self.atoms, literal) for literal in self.held(chosen))
 
     def clash(self, chosen):
-        return has_clash(self.held(chosen))
+        if chosen not in self.known_clashes:
+            self.known_clashes[chosen] = has_clash(self.held(chosen))
+        return self.known_clashes[chosen]
 
     def clashes(self):
         return least([chosen for chosen in self.sets if self.clash(chosen)])
 
     def outweighs(self, i):
         return [j for j, name in enumerate(self.names) if (self.names[i], name) in self.pairs]
+
+    def can_strike(self, each, i):
+        lesser = [j for j in self.outweighs(i) if has(each, j)]
+        return not has(each, i) and not lesser and not self.clash(each) and self.clash(each | 2 ** i)
+
+    def strikes(self, chosen, i):
+        return any(within(each, chosen) and self.can_strike(each, i) for each in self.sets)
+
+    def strikers(self, i):
+        return least([each for each in self.sets if self.can_strike(each, i)])
+
+    def struck(self, on, chosen):
+        return sum(2 ** i for i in range(len(self.names)) if has(on, i) and self.strikes(chosen, i))
 
 
 # What read, print_form and count with 0 to 4 answer.

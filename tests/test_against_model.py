@@ -141,6 +141,33 @@ class ToldAgainstModel(unittest.TestCase):
                 self.assertEqual(desk.outweighs(i, t), [0, sum(2 ** j for j in told.outweighs(i))], text)
             self.assertEqual(desk.outweighs(len(told.names), t), [-1], text)
 
+    def test_strikes(self):
+        for text, t, told in some_told(28, 80, 5):
+            for i in range(len(told.names)):
+                for chosen in told.sets:
+                    self.assertEqual(desk.strikes(chosen, i, t), [0, 1 if told.strikes(chosen, i) else 0], text)
+                self.assertEqual(desk.strikes(len(told.sets), i, t), [-1], text)
+            self.assertEqual(desk.strikes(0, len(told.names), t), [-1], text)
+
+    def test_strikers(self):
+        for text, t, told in some_told(29, 200, 6):
+            for i in range(len(told.names)):
+                self.assertEqual(desk.strikers(i, t), [0, *told.strikers(i)], text)
+            self.assertEqual(desk.strikers(len(told.names), t), [-1], text)
+
+    def test_strikers_of_up_to_ten_rules(self):
+        for text, t, told in some_told(30, 10, 10):
+            for i in range(len(told.names)):
+                self.assertEqual(desk.strikers(i, t), [0, *told.strikers(i)], text)
+
+    def test_struck(self):
+        for text, t, told in some_told(31, 60, 4):
+            for on in told.sets:
+                for chosen in told.sets:
+                    self.assertEqual(desk.struck(on, chosen, t), [0, told.struck(on, chosen)], text)
+                self.assertEqual(desk.struck(on, len(told.sets), t), [-1], text)
+                self.assertEqual(desk.struck(len(told.sets), on, t), [-1], text)
+
 
 class PromiseOne(unittest.TestCase):
     def test_the_one_form_tells_the_same_and_prints_so_again(self):

@@ -9,10 +9,6 @@ from strikecase import desk
 from texts import clash, clashes, lines, rows, set_of
 
 
-def sets_of_size(size, number):
-    return sorted(sum(2 ** i for i in each) for each in itertools.combinations(range(number), size))
-
-
 class Clashes(unittest.TestCase):
     def told(self, text, *sets):
         self.assertEqual(clashes(text), [0] + [set_of(names, text) for names in sets])
@@ -56,11 +52,11 @@ class Clashes(unittest.TestCase):
         heads = [[f"~r{j}" for j in range(i)] for i in range(10)]
         rules = [f"rule r{i}: => p{i}" for i in range(10)]
         laws = [f"law l{i}x{j}: p{i} -> {head}" for i in range(10) for j, head in enumerate(heads[i])]
-        self.assertEqual(clashes(lines(*rules, *laws)), [0] + sets_of_size(2, 10))
+        self.assertEqual(clashes(lines(*rules, *laws)), [0] + cases.sets_of_size(2, 10))
 
     def test_ten_rules_where_each_clashes_alone(self):
         text = lines(*[f"rule r{i}: => ~r{i}" for i in range(10)])
-        self.assertEqual(clashes(text), [0] + sets_of_size(1, 10))
+        self.assertEqual(clashes(text), [0] + cases.sets_of_size(1, 10))
 
     # Each of a pair (r0 r1), (r2 r3), .. makes the pair's atom; all five atoms clash.
     def test_ten_rules_where_only_large_sets_do(self):
@@ -76,25 +72,12 @@ class Clashes(unittest.TestCase):
         self.assertEqual(clashes(text), [0, 1023])
 
     def test_ten_rules_where_any_six_do(self):
-        text = counting_case(10, 6)
+        text = cases.counting_case(10, 6)
         self.assertEqual(desk.read(rows(text)), [0])
-        self.assertEqual(clashes(text), [0] + sets_of_size(6, 10))
+        self.assertEqual(clashes(text), [0] + cases.sets_of_size(6, 10))
 
     def test_answers_are_ints(self):
         self.assertEqual({type(each) for each in clashes("rule a: => ~a\n")}, {int})
-
-
-# sI-N: of the first I rules at least N are there. Those from which the last can't be reached are left out.
-def counting_case(number, least):
-    laws = []
-    for n in range(1, least + 1):
-        for i in range(n, n + number - least + 1):
-            before = f", s{i - 1}-{n - 1}" if n > 1 else ""
-            laws.append(f"r{i - 1}{before} -> s{i}-{n}")
-            if i > n:
-                laws.append(f"s{i - 1}-{n} -> s{i}-{n}")
-    laws.append(f"s{number}-{least} -> ~s{number}-{least}")
-    return lines(*[f"law l{i}: {law}" for i, law in enumerate(laws)], *[f"rule r{i}: => r{i}" for i in range(number)])
 
 
 class LeastClashWithin(unittest.TestCase):

@@ -32,6 +32,17 @@ CALLS = (
     lambda t: desk.outweighs(0, t),
     lambda t: desk.outweighs(1, t),
     lambda t: desk.outweighs(4294967295, t),
+    lambda t: desk.strikes(0, 0, t),
+    lambda t: desk.strikes(1, 1, t),
+    lambda t: desk.strikes(4294967295, 0, t),
+    lambda t: desk.strikes(0, 4294967295, t),
+    lambda t: desk.strikers(0, t),
+    lambda t: desk.strikers(1, t),
+    lambda t: desk.strikers(4294967295, t),
+    lambda t: desk.struck(0, 0, t),
+    lambda t: desk.struck(3, 1, t),
+    lambda t: desk.struck(4294967295, 1, t),
+    lambda t: desk.struck(1, 4294967295, t),
 )
 
 
@@ -98,6 +109,11 @@ class Refusals(unittest.TestCase):
             self.assertEqual(desk.follows(4, t), [-1])
             self.assertEqual(desk.clash(4, t), [-1])
             self.assertEqual(desk.outweighs(2, t), [-1])
+            self.assertEqual(desk.strikes(4, 0, t), [-1])
+            self.assertEqual(desk.strikes(0, 2, t), [-1])
+            self.assertEqual(desk.strikers(2, t), [-1])
+            self.assertEqual(desk.struck(4, 0, t), [-1])
+            self.assertEqual(desk.struck(0, 4, t), [-1])
 
 
 class NothingKept(unittest.TestCase):
@@ -107,6 +123,8 @@ class NothingKept(unittest.TestCase):
         "law a: -> p",
         lines("rule b: => q", "law a: -> p", "rule c: => r", "weigh c > b"),
         lines("law a: -> p", "law b: -> ~p"),
+        lines("rule b: => q", "rule a: => ~q", "law l: q -> p", "weigh b > a"),
+        lines("rule a: => ~a", "rule b: => ~p", "rule c: => p"),
         "x" * 8193,
     )
 

@@ -47,6 +47,18 @@ def outweighs(i, text):
     return desk.outweighs(i, rows(text))
 
 
+def strikes(chosen, i, text):
+    return desk.strikes(chosen, i, rows(text))
+
+
+def strikers(i, text):
+    return desk.strikers(i, rows(text))
+
+
+def struck(on, chosen, text):
+    return desk.struck(on, chosen, rows(text))
+
+
 # What follows, by its literals' words in the place of their numbers.
 def words_that_follow(chosen, text):
     answer = follows(chosen, text)
@@ -62,10 +74,13 @@ def named(what, i, text):
     return bytes(answer[1:]).decode("latin-1")
 
 
+def rule_number(rule, text):
+    return [named(1, i, text) for i in range(count(1, text)[1])].index(rule)
+
+
 # A set of rules, by their names.
 def set_of(names, text):
-    own = [named(1, i, text) for i in range(count(1, text)[1])]
-    return sum(2 ** own.index(each) for each in names.split())
+    return sum(2 ** rule_number(each, text) for each in names.split())
 
 
 def printed(text):
