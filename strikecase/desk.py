@@ -5,7 +5,7 @@ from strikecase.form import one_form
 from strikecase.numbering import ATOMS, is_rule, is_set_of_rules, literal_numbers, names_in_order, outweighed_by
 from strikecase.pleading import least_weights
 from strikecase.reading import NO_CASE, read_text
-from strikecase.striking import does_strike, strikers_of, strikers_of_all, struck_out
+from strikecase.striking import defended_rules, does_strike, is_free, kind_of, strikers_of, strikers_of_all, struck_out
 from strikecase.words import parse_literal
 
 DONE = 0
@@ -121,3 +121,30 @@ def struck(on, chosen, t):
     if not is_set_of_rules(reading.case, on) or not is_set_of_rules(reading.case, chosen):
         return [OUT_OF_BOUNDS]
     return [DONE, struck_out(on, chosen, strikers_of_all(reading.case))]
+
+
+def free(chosen, t):
+    reading = read_text(t)
+    if reading.refusal != DONE:
+        return [reading.refusal]
+    if not is_set_of_rules(reading.case, chosen):
+        return [OUT_OF_BOUNDS]
+    return [DONE, int(is_free(chosen, strikers_of_all(reading.case)))]
+
+
+def defended(on, chosen, t):
+    reading = read_text(t)
+    if reading.refusal != DONE:
+        return [reading.refusal]
+    if not is_set_of_rules(reading.case, on) or not is_set_of_rules(reading.case, chosen):
+        return [OUT_OF_BOUNDS]
+    return [DONE, defended_rules(on, chosen, strikers_of_all(reading.case))]
+
+
+def kind(on, chosen, t):
+    reading = read_text(t)
+    if reading.refusal != DONE:
+        return [reading.refusal]
+    if not is_set_of_rules(reading.case, on) or not is_set_of_rules(reading.case, chosen):
+        return [OUT_OF_BOUNDS]
+    return [DONE, kind_of(on, chosen, strikers_of_all(reading.case))]

@@ -134,6 +134,7 @@ class Told:
         self.names = sorted(self.rules)
         self.sets = range(2 ** len(self.names))
         self.known_clashes = {}
+        self.known_strikes = {}
 
     def members(self, chosen):
         return [name for i, name in enumerate(self.names) if has(chosen, i)]
@@ -161,13 +162,43 @@ class Told:
         return not has(each, i) and not lesser and not self.clash(each) and self.clash(each | 2 ** i)
 
     def strikes(self, chosen, i):
-        return any(within(each, chosen) and self.can_strike(each, i) for each in self.sets)
+        if (chosen, i) not in self.known_strikes:
+            found = any(within(each, chosen) and self.can_strike(each, i) for each in self.sets)
+            self.known_strikes[(chosen, i)] = found
+        return self.known_strikes[(chosen, i)]
 
     def strikers(self, i):
         return least([each for each in self.sets if self.can_strike(each, i)])
 
     def struck(self, on, chosen):
-        return sum(2 ** i for i in range(len(self.names)) if has(on, i) and self.strikes(chosen, i))
+        return sum(2 ** i for i in self.numbers(on) if self.strikes(chosen, i))
+
+    def numbers(self, chosen):
+        return [i for i in range(len(self.names)) if has(chosen, i)]
+
+    def strikes_one_of(self, chosen, other):
+        return any(self.strikes(chosen, i) for i in self.numbers(other))
+
+    def free(self, chosen):
+        return not self.strikes_one_of(chosen, chosen)
+
+    def defends(self, on, chosen, i):
+        threats = [each for each in self.sets if within(each, on) and self.strikes(each, i)]
+        return all(self.strikes_one_of(chosen, each) for each in threats)
+
+    def defended(self, on, chosen):
+        return sum(2 ** i for i in self.numbers(on) if self.defends(on, chosen, i))
+
+    def admissible(self, on, chosen):
+        return within(chosen, on) and self.free(chosen) and within(chosen, self.defended(on, chosen))
+
+    def complete(self, on, chosen):
+        return self.admissible(on, chosen) and within(self.defended(on, chosen), chosen)
+
+    def kind(self, on, chosen):
+        if not within(chosen, on) or not self.free(chosen):
+            return 0
+        return 3 if self.complete(on, chosen) else 2 if self.admissible(on, chosen) else 1
 
 
 # What read, print_form and count with 0 to 4 answer.

@@ -168,6 +168,43 @@ class ToldAgainstModel(unittest.TestCase):
                 self.assertEqual(desk.struck(on, len(told.sets), t), [-1], text)
                 self.assertEqual(desk.struck(len(told.sets), on, t), [-1], text)
 
+    def test_free(self):
+        for text, t, told in some_told(32, 80, 5):
+            for chosen in told.sets:
+                self.assertEqual(desk.free(chosen, t), [0, 1 if told.free(chosen) else 0], text)
+            self.assertEqual(desk.free(len(told.sets), t), [-1], text)
+
+    def test_defended(self):
+        for text, t, told in some_told(33, 60, 4):
+            for on in told.sets:
+                for chosen in told.sets:
+                    self.assertEqual(desk.defended(on, chosen, t), [0, told.defended(on, chosen)], text)
+                self.assertEqual(desk.defended(on, len(told.sets), t), [-1], text)
+                self.assertEqual(desk.defended(len(told.sets), on, t), [-1], text)
+
+    def test_kind(self):
+        seen = set()
+        for text, t, told in some_told(34, 60, 4):
+            for on in told.sets:
+                for chosen in told.sets:
+                    answer = desk.kind(on, chosen, t)
+                    self.assertEqual(answer, [0, told.kind(on, chosen)], text)
+                    seen.add(answer[1])
+                self.assertEqual(desk.kind(on, len(told.sets), t), [-1], text)
+                self.assertEqual(desk.kind(len(told.sets), on, t), [-1], text)
+        self.assertEqual(seen, {0, 1, 2, 3})
+
+    # Some sets each, since all pairs of sets of so many rules are too many.
+    def test_defended_and_kind_of_up_to_seven_rules(self):
+        chance = random.Random(35)
+        for text, t, told in some_told(36, 40, 7):
+            for i in range(12):
+                on, chosen = chance.choice(told.sets) | chance.choice(told.sets), chance.choice(told.sets)
+                for each in (chosen, chosen & on):
+                    self.assertEqual(desk.struck(on, each, t), [0, told.struck(on, each)], text)
+                    self.assertEqual(desk.defended(on, each, t), [0, told.defended(on, each)], text)
+                    self.assertEqual(desk.kind(on, each, t), [0, told.kind(on, each)], text)
+
 
 class PromiseOne(unittest.TestCase):
     def test_the_one_form_tells_the_same_and_prints_so_again(self):

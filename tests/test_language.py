@@ -35,11 +35,17 @@ def bound_names(tree):
             yield node.arg
 
 
+# The name of what is called, of a function or a method; of anything else None.
+def called(node):
+    if not isinstance(node, ast.Call):
+        return None
+    return node.func.attr if isinstance(node.func, ast.Attribute) else getattr(node.func, "id", None)
+
+
 class Language(unittest.TestCase):
     def each(self):
         for path in FILES:
-            with self.subTest(file=path.name):
-                yield path, path.read_text(encoding="utf-8")
+            yield path, path.read_text(encoding="utf-8")
 
     def test_files(self):
         self.assertIn(PACKAGE / "__init__.py", FILES)
@@ -100,6 +106,29 @@ class Language(unittest.TestCase):
                     self.assertIn(node.id, OWN_NAMES)
                 if isinstance(node, ast.Call) and isinstance(node.func, ast.Attribute):
                     self.assertIn(node.func.attr, METHODS)
+
+    def test_powers_texts_and_is(self):
+        for path, source in self.each():
+            for node in ast.walk(ast.parse(source)):
+                if isinstance(node, ast.BinOp) and isinstance(node.op, ast.Pow):
+                    self.assertIsInstance(node.right, ast.Constant)
+                if isinstance(node, ast.Constant) and isinstance(node.value, str):
+                    self.assertNotIn("%", node.value)
+                if isinstance(node, ast.Compare) and any(isinstance(op, (ast.Is, ast.IsNot)) for op in node.ops):
+                    self.assertIn(ast.unparse(node.comparators[0]), ("None", "True", "False"))
+
+    # What is walked stands behind the in of a for or straight in a call that walks it; a set straight in len or sorted.
+    def test_walked_on_the_spot(self):
+        walked = ("zip", "enumerate", "reversed", "range", "items", "keys", "values")
+        walkers = ("list", "tuple", "dict", "sorted", "sum", "any", "all", "enumerate", "zip", "min", "max")
+        for path, source in self.each():
+            for parent in ast.walk(ast.parse(source)):
+                for child in ast.iter_child_nodes(parent):
+                    if called(child) in walked:
+                        on_the_spot = isinstance(parent, (ast.For, ast.comprehension)) and parent.iter is child
+                        self.assertTrue(on_the_spot or called(parent) in walkers, ast.unparse(parent))
+                    if called(child) in ("set", "frozenset"):
+                        self.assertIn(called(parent), ("len", "sorted"), ast.unparse(parent))
 
     def test_imports_make_no_ring(self):
         draws = {}

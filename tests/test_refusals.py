@@ -43,6 +43,17 @@ CALLS = (
     lambda t: desk.struck(3, 1, t),
     lambda t: desk.struck(4294967295, 1, t),
     lambda t: desk.struck(1, 4294967295, t),
+    lambda t: desk.free(0, t),
+    lambda t: desk.free(3, t),
+    lambda t: desk.free(4294967295, t),
+    lambda t: desk.defended(0, 0, t),
+    lambda t: desk.defended(3, 1, t),
+    lambda t: desk.defended(4294967295, 1, t),
+    lambda t: desk.defended(1, 4294967295, t),
+    lambda t: desk.kind(0, 0, t),
+    lambda t: desk.kind(3, 1, t),
+    lambda t: desk.kind(4294967295, 1, t),
+    lambda t: desk.kind(1, 4294967295, t),
 )
 
 
@@ -114,6 +125,11 @@ class Refusals(unittest.TestCase):
             self.assertEqual(desk.strikers(2, t), [-1])
             self.assertEqual(desk.struck(4, 0, t), [-1])
             self.assertEqual(desk.struck(0, 4, t), [-1])
+            self.assertEqual(desk.free(4, t), [-1])
+            self.assertEqual(desk.defended(4, 0, t), [-1])
+            self.assertEqual(desk.defended(0, 4, t), [-1])
+            self.assertEqual(desk.kind(4, 0, t), [-1])
+            self.assertEqual(desk.kind(0, 4, t), [-1])
 
 
 class NothingKept(unittest.TestCase):
@@ -135,6 +151,13 @@ class NothingKept(unittest.TestCase):
                 call(t)
                 self.assertEqual(t, rows(text))
 
+    def test_answers_are_lists_of_int(self):
+        for text in self.TEXTS:
+            for call in CALLS:
+                answer = call(rows(text))
+                self.assertIs(type(answer), list)
+                self.assertEqual({type(each) for each in answer}, {int})
+
     def test_the_same_again(self):
         first = [[call(rows(text)) for call in CALLS] for text in self.TEXTS]
         second = [[call(rows(text)) for call in CALLS] for text in self.TEXTS]
@@ -149,11 +172,12 @@ class NothingKept(unittest.TestCase):
                 self.assertEqual(call(t), call(t))
 
     def test_a_changed_answer_changes_no_other(self):
-        t = rows(self.TEXTS[3])
-        answer = desk.print_form(t)
-        kept = list(answer)
-        answer.clear()
-        self.assertEqual(desk.print_form(t), kept)
+        for text in self.TEXTS:
+            for call in CALLS:
+                answer = call(rows(text))
+                kept = list(answer)
+                answer.clear()
+                self.assertEqual(call(rows(text)), kept)
 
 
 if __name__ == "__main__":

@@ -45,11 +45,15 @@ def calls(t):
         yield lambda: desk.outweighs(rule, t)
         yield lambda: desk.strikers(rule, t)
         yield lambda: desk.strikes(1023 - 2 ** rule, rule, t)
-    for chosen in (0, 1, 992, 1023):
+    for chosen in (0, 63, 1023):
         yield lambda: desk.follows(chosen, t)
         yield lambda: desk.clash(chosen, t)
         yield lambda: desk.struck(1023, chosen, t)
         yield lambda: desk.struck(chosen, 1023 - chosen, t)
+        yield lambda: desk.free(chosen, t)
+        yield lambda: desk.defended(1023, chosen, t)
+        yield lambda: desk.defended(chosen, 1023 - chosen, t)
+        yield lambda: desk.kind(1023, chosen, t)
     for what in range(4):
         yield lambda: desk.count(what, t)
     for what in range(3):

@@ -59,6 +59,18 @@ def struck(on, chosen, text):
     return desk.struck(on, chosen, rows(text))
 
 
+def free(chosen, text):
+    return desk.free(chosen, rows(text))
+
+
+def defended(on, chosen, text):
+    return desk.defended(on, chosen, rows(text))
+
+
+def kind(on, chosen, text):
+    return desk.kind(on, chosen, rows(text))
+
+
 # What follows, by its literals' words in the place of their numbers.
 def words_that_follow(chosen, text):
     answer = follows(chosen, text)
