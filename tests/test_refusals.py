@@ -132,6 +132,15 @@ class Refusals(unittest.TestCase):
             self.assertEqual(desk.kind(0, 4, t), [-1])
 
 
+# A list that can't be changed, not for a while either.
+class Fixed(list):
+    def refuse(self, *given):
+        raise AssertionError("what was handed in is changed")
+
+    append = clear = extend = insert = pop = remove = reverse = sort = refuse
+    __setitem__ = __delitem__ = __iadd__ = __imul__ = refuse
+
+
 class NothingKept(unittest.TestCase):
     TEXTS = (
         "",
@@ -150,6 +159,12 @@ class NothingKept(unittest.TestCase):
                 t = rows(text)
                 call(t)
                 self.assertEqual(t, rows(text))
+
+    def test_what_is_handed_in_is_not_changed_for_a_while(self):
+        for text in self.TEXTS:
+            for call in CALLS:
+                self.assertEqual(call(Fixed(rows(text))), call(rows(text)))
+            self.assertEqual(desk.number(rows(text), Fixed(rows("~p"))), desk.number(rows(text), rows("~p")))
 
     def test_answers_are_lists_of_int(self):
         for text in self.TEXTS:
